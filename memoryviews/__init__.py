@@ -1,0 +1,1 @@
+"""What several hands can read of one memory by four rules."""

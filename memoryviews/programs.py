@@ -1,0 +1,104 @@
+"""Programs and their rows."""
+
+from memoryviews.errors import BadOutcome, BadProgram
+from memoryviews.values import is_tuple_of, is_between
+
+HANDS = 4
+ROWS = 16
+PLACES = 4
+HIGHEST_PLACE = 3
+HIGHEST_VALUE = 3
+HIGHEST_HELD = 2
+# what a hand holds at first in its registers, and what is at first at the places
+NOTHING_HELD = (0, 0, 0)
+NOTHING_THERE = (0, 0, 0, 0)
+# for each word the highest numbers that may follow it; the last number of an only is limited by its hand
+FORMS = {
+    "put": (HIGHEST_PLACE, HIGHEST_VALUE),
+    "give": (HIGHEST_PLACE, HIGHEST_HELD),
+    "get": (HIGHEST_HELD, HIGHEST_PLACE),
+    "swap": (HIGHEST_HELD, HIGHEST_PLACE, HIGHEST_VALUE),
+    "fence": (),
+    "only": (HIGHEST_HELD, HIGHEST_VALUE, ROWS),
+}
+
+
+def is_program(thing):
+    """Whether a value, of any kind, is a program."""
+    return isinstance(thing, tuple) and 1 <= len(thing) <= HANDS and all([is_hand(hand) for hand in thing])
+
+
+def is_hand(thing):
+    """Whether a value is a hand of a program."""
+    if not isinstance(thing, tuple) or len(thing) > ROWS:
+        return False
+    return all([is_row(row, len(thing) - at - 1) for at, row in enumerate(thing)])
+
+
+def is_row(thing, behind):
+    """Whether a value is a row with so many rows behind it."""
+    if not isinstance(thing, tuple) or len(thing) == 0 or not isinstance(thing[0], str) or thing[0] not in FORMS:
+        return False
+    limits = FORMS[thing[0]]
+    if len(thing) != len(limits) + 1:
+        return False
+    if not all([is_between(number, 0, limit) for number, limit in zip(thing[1:], limits)]):
+        return False
+    return thing[0] != "only" or 1 <= thing[3] <= behind
+
+
+def check_program(program):
+    """Raise BadProgram for what is no program."""
+    if not is_program(program):
+        raise BadProgram("no program")
+
+
+def places_of(program):
+    """The ascending list of the places of a program's rows."""
+    check_program(program)
+    places = [place_of(row) for hand in program for row in hand]
+    return sorted({place for place in places if place is not None})
+
+
+def place_of(row):
+    """The place of a row, None for a fence and an only."""
+    if row[0] in ("put", "give"):
+        return row[1]
+    if row[0] in ("get", "swap"):
+        return row[2]
+    return None
+
+
+def is_putting(row):
+    """Whether a row puts."""
+    return row[0] in ("put", "give", "swap")
+
+
+def is_getting(row):
+    """Whether a row gets."""
+    return row[0] in ("get", "swap")
+
+
+def value_put(row, held):
+    """The value that a row puts, by a hand that holds this before it."""
+    if row[0] == "give":
+        return held[row[2]]
+    return row[-1]
+
+
+def is_held(thing):
+    """Whether a value is what the registers of a hand can hold."""
+    return is_tuple_of(thing, 3) and all([is_between(value, 0, HIGHEST_VALUE) for value in thing])
+
+
+def is_there(thing):
+    """Whether a value is what can be at the four places."""
+    return is_tuple_of(thing, PLACES) and all([is_between(value, 0, HIGHEST_VALUE) for value in thing])
+
+
+def check_outcome(program, outcome):
+    """Raise BadOutcome for what is no outcome for so many hands."""
+    if not is_tuple_of(outcome, 2) or not is_tuple_of(outcome[0], len(program)):
+        raise BadOutcome("no pair of what the hands hold, and what is at the places")
+    if not all([is_held(held) for held in outcome[0]]) or not is_there(outcome[1]):
+        raise BadOutcome("no outcome of this program")

@@ -1,0 +1,121 @@
+"""The examples of the interface, word for word."""
+
+import doctest
+import unittest
+
+RUNS = """
+>>> from memoryviews.runs import deeds_behind, is_seen, judge_outcome, outcome_of, outcomes, states_of
+>>> program = ((("put", 0, 1), ("get", 0, 1)), (("put", 1, 1), ("get", 0, 0)))
+>>> none = (((0, 0, 0), (0, 0, 0)), (1, 1, 0, 0))
+>>> [[is_seen(program, rule, none) for rule in ("one", "queues", "lanes", "views")], [len(outcomes(program, rule)) for rule in ("one", "queues")]]
+[[False, True, True, True], [3, 4]]
+>>> run = judge_outcome(program, "queues", none).run
+>>> [outcome_of(program, "queues", run) == none, len(run), deeds_behind(program, "lanes", [("do", 0, None)]), deeds_behind(program, "views", [])]
+[True, 6, [('do', 0, None), ('move', 0, 0), ('do', 1, None)], [('do', 0, 1), ('do', 1, 1)]]
+>>> states_of(program, "queues", [("do", 0, None)])[1]
+(((1, (0, 0, 0)), (0, (0, 0, 0))), (0, 0, 0, 0), (((0, 1),), ()))
+>>> states_of(program, "views", [("do", 1, 1)])[1][1:]
+((((0, (0, 0, 0, 0), False),), ((0, (0, 0, 0, 0), False), (1, (0, 1, 0, 0), False)), ((0, (0, 0, 0, 0), False),), ((0, (0, 0, 0, 0), False),)), (((0, 0, 0, 0), (0, 1, 0, 0)), (0, 0, 0, 0)))
+"""
+
+ROOMS = """
+>>> from memoryviews.rooms import judge_rooms, outcomes_with, room_for
+>>> from memoryviews.rules import always_within, is_within, judge_within, rules_with
+>>> from memoryviews.wishes import is_safe, judge_wish
+>>> message = ((("put", 0, 1), ("put", 1, 1)), (("get", 0, 1), ("get", 1, 0)))
+>>> late = (((0, 0, 0), (1, 0, 0)), (1, 1, 0, 0))
+>>> [rules_with(message, late), is_within(message, "lanes", "views"), always_within("queues", "views"), always_within("views", "lanes")]
+[['lanes'], False, True, False]
+>>> [room_for(message, "lanes", late), len(outcomes_with(message, "lanes", 1)), len(outcomes_with(message, "lanes", 2)), judge_rooms(message, "queues").number]
+[2, 3, 4, 0]
+>>> lock = ((("put", 0, 1), ("get", 0, 1), ("only", 0, 0, 1), ("put", 2, 1)), (("put", 1, 1), ("get", 0, 0), ("only", 0, 0, 1), ("put", 2, 2)))
+>>> [is_safe(lock, rule, ((0, 3), (1, 3))) for rule in ("one", "queues", "views")]
+[True, False, False]
+"""
+
+SWITCHES = """
+>>> from memoryviews.schemes import judge_scheme, schemes_for, with_scheme
+>>> from memoryviews.switches import fewest_switches, judge_switches
+>>> message = ((("put", 0, 1), ("put", 1, 1)), (("get", 0, 1), ("get", 1, 0)))
+>>> late = (((0, 0, 0), (1, 0, 0)), (1, 1, 0, 0))
+>>> [schemes_for(rule) for rule in ("one", "queues", "lanes", "views")]
+[['puts', 'gets', 'both', 'all', 'aheads', 'behinds', 'most'], ['puts', 'gets', 'both', 'all'], ['puts', 'both', 'all'], ['all']]
+>>> with_scheme(((("only", 0, 1, 2), ("put", 0, 1), ("get", 0, 0), ("get", 1, 1)),), "both")
+((('only', 0, 1, 4), ('put', 0, 1), ('fence',), ('fence',), ('get', 0, 0), ('fence',), ('get', 1, 1)),)
+>>> [judge_scheme("gets", "views").shows("gets", "views"), fewest_switches(message, "lanes", late), fewest_switches(message, "queues", late)]
+[True, 2, None]
+"""
+
+DESKS = """
+>>> from memoryviews.desks import Desk
+>>> from memoryviews.logs import is_let, log_of, rules_for
+>>> message = ((("put", 0, 1), ("put", 1, 1)), (("get", 0, 1), ("get", 1, 0)))
+>>> log = ((("put", 0, 1),), (("put", 1, 1),), (("got", 0, 1), ("got", 1, 0)), (("got", 1, 1), ("got", 0, 0)))
+>>> [rules_for(log), is_let(log, "queues"), log_of(message, "lanes", [("do", 0, None), ("do", 0, None), ("move", 0, 1), ("do", 1, None)])]
+[['views'], False, ((('put', 0, 1), ('put', 1, 1)), (('got', 1, 1),))]
+>>> desk = Desk(message, "lanes")
+>>> for deed in [("do", 0, None), ("do", 0, None), ("move", 0, 1)]: desk.do(deed)
+>>> [desk.deeds(), desk.undo(), len(desk.journal()), desk.is_over()]
+[[('move', 0, 0), ('do', 1, None)], ('move', 0, 1), 2, False]
+"""
+
+STORIES = """
+>>> from memoryviews.stories import Story, count_stories, story_outcome
+>>> program = ((('put', 0, 1), ('get', 0, 1)), (('put', 1, 1), ('get', 0, 0)))
+>>> story = Story({(0, 1): (None, 1), (1, 1): (None, 0)}, (((None, 0), (0, 0)), ((None, 1), (1, 0)), ((None, 2),), ((None, 3),)), ())
+>>> [count_stories(program, 'one'), story_outcome(program, 'one', story), story.fences]
+[4, (((0, 0, 0), (0, 0, 0)), (1, 1, 0, 0)), ()]
+"""
+
+LETTING = """
+>>> from memoryviews.letting import is_let
+>>> from memoryviews.stories import Story
+>>> program = ((('put', 0, 1), ('get', 0, 1)), (('put', 1, 1), ('get', 0, 0)))
+>>> story = Story({(0, 1): (None, 1), (1, 1): (None, 0)}, (((None, 0), (0, 0)), ((None, 1), (1, 0)), ((None, 2),), ((None, 3),)), ())
+>>> [is_let(program, rule, story) for rule in ('one', 'queues', 'lanes', 'views')]
+[False, True, True, True]
+"""
+
+TELLING = """
+>>> from memoryviews.telling import Barred, count_let, is_told, judge_story, outcomes_told
+>>> program = ((('put', 0, 1), ('get', 0, 1)), (('put', 1, 1), ('get', 0, 0)))
+>>> nothing = (((0, 0, 0), (0, 0, 0)), (1, 1, 0, 0))
+>>> [is_told(program, 'one', nothing), is_told(program, 'queues', nothing), len(outcomes_told(program, 'one')), count_let(program, 'queues')]
+[False, True, 3, 4]
+>>> [sorted(row[1]) for row in judge_story(program, 'one', nothing).rows]
+[[((0, 0), 'row'), ((0, 1), 'past'), ((1, 0), 'row'), ((1, 1), 'past')]]
+"""
+
+RACES = """
+>>> from memoryviews.races import Race, is_raceless, races_of
+>>> handed = ((('put', 0, 1), ('swap', 0, 1, 1)), (('swap', 0, 1, 2), ('only', 0, 1, 1), ('get', 1, 0)))
+>>> [is_raceless(handed), races_of(handed), races_of(((('put', 0, 1),), (('get', 0, 0),))), Race([], (0, 1)).shows(((('put', 0, 1),), (('get', 0, 0),)))]
+[True, [], [(0, 1)], True]
+"""
+
+EXAMPLES = {
+    "runs": RUNS,
+    "rooms": ROOMS,
+    "switches": SWITCHES,
+    "desks": DESKS,
+    "stories": STORIES,
+    "letting": LETTING,
+    "telling": TELLING,
+    "races": RACES,
+}
+
+
+class TestExamples(unittest.TestCase):
+
+    def test_examples(self):
+        for name, text in EXAMPLES.items():
+            with self.subTest(module=name):
+                test = doctest.DocTestParser().get_doctest(text, {}, name, None, None)
+                self.assertGreater(len(test.examples), 0)
+                runner = doctest.DocTestRunner(verbose=False)
+                runner.run(test)
+                self.assertEqual(runner.summarize(verbose=False), (0, len(test.examples)))
+
+
+if __name__ == "__main__":
+    unittest.main()
