@@ -3,14 +3,14 @@
 from memoryviews.errors import BadLog
 from memoryviews.exploring import checked_states, explored, follow, run_to, steps_in
 from memoryviews.machines import RULES, check_rule, has_ended, next_row, start_of
-from memoryviews.programs import HANDS, HIGHEST_PLACE, HIGHEST_VALUE, ROWS, check_program, value_put
-from memoryviews.values import is_between, listed, lists_all, same
+from memoryviews.programs import HANDS, ROWS, check_program, value_put
+from memoryviews.values import has_numbers, is_worded, listed, lists_all, same
 
 # for each word of an act the highest numbers that may follow it
 ACTS = {
-    "put": (HIGHEST_PLACE, HIGHEST_VALUE),
-    "got": (HIGHEST_PLACE, HIGHEST_VALUE),
-    "swapped": (HIGHEST_PLACE, HIGHEST_VALUE, HIGHEST_VALUE),
+    "put": (3, 3),
+    "got": (3, 3),
+    "swapped": (3, 3, 3),
     "fence": (),
 }
 
@@ -49,12 +49,7 @@ class Unlet:
 
 def is_act(thing):
     """Whether a value is an act of a log."""
-    if not isinstance(thing, tuple) or len(thing) == 0 or not isinstance(thing[0], str) or thing[0] not in ACTS:
-        return False
-    limits = ACTS[thing[0]]
-    if len(thing) != len(limits) + 1:
-        return False
-    return all([is_between(number, 0, limit) for number, limit in zip(thing[1:], limits)])
+    return is_worded(thing) and thing[0] in ACTS and has_numbers(thing, ACTS[thing[0]])
 
 
 def is_log(thing):

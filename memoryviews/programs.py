@@ -1,25 +1,23 @@
 """Programs and their rows."""
 
 from memoryviews.errors import BadOutcome, BadProgram
-from memoryviews.values import is_tuple_of, is_between
+from memoryviews.values import has_numbers, is_between, is_tuple_of, is_worded
 
 HANDS = 4
 ROWS = 16
 PLACES = 4
-HIGHEST_PLACE = 3
 HIGHEST_VALUE = 3
-HIGHEST_HELD = 2
 # what a hand holds at first in its registers, and what is at first at the places
 NOTHING_HELD = (0, 0, 0)
 NOTHING_THERE = (0, 0, 0, 0)
 # for each word the highest numbers that may follow it; the last number of an only is limited by its hand
 FORMS = {
-    "put": (HIGHEST_PLACE, HIGHEST_VALUE),
-    "give": (HIGHEST_PLACE, HIGHEST_HELD),
-    "get": (HIGHEST_HELD, HIGHEST_PLACE),
-    "swap": (HIGHEST_HELD, HIGHEST_PLACE, HIGHEST_VALUE),
+    "put": (3, 3),
+    "give": (3, 2),
+    "get": (2, 3),
+    "swap": (2, 3, 3),
     "fence": (),
-    "only": (HIGHEST_HELD, HIGHEST_VALUE, ROWS),
+    "only": (2, 3, 16),
 }
 
 
@@ -37,12 +35,7 @@ def is_hand(thing):
 
 def is_row(thing, behind):
     """Whether a value is a row with so many rows behind it."""
-    if not isinstance(thing, tuple) or len(thing) == 0 or not isinstance(thing[0], str) or thing[0] not in FORMS:
-        return False
-    limits = FORMS[thing[0]]
-    if len(thing) != len(limits) + 1:
-        return False
-    if not all([is_between(number, 0, limit) for number, limit in zip(thing[1:], limits)]):
+    if not is_worded(thing) or thing[0] not in FORMS or not has_numbers(thing, FORMS[thing[0]]):
         return False
     return thing[0] != "only" or 1 <= thing[3] <= behind
 

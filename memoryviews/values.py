@@ -16,6 +16,18 @@ def is_tuple_of(thing, many):
     return isinstance(thing, tuple) and len(thing) == many
 
 
+def is_worded(thing):
+    """Whether something is a tuple that begins with a word."""
+    return isinstance(thing, tuple) and len(thing) > 0 and isinstance(thing[0], str)
+
+
+def has_numbers(thing, limits):
+    """Whether behind the first item of a tuple there are integers from 0 to these limits, as many as these."""
+    if len(thing) != len(limits) + 1:
+        return False
+    return all([is_between(number, 0, limit) for number, limit in zip(thing[1:], limits)])
+
+
 def same(one, other):
     """Whether two values are equal, where no boolean is an integer, and no list a tuple."""
     if isinstance(one, (list, tuple)):
