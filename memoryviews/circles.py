@@ -81,18 +81,12 @@ def place_at(program, doing):
     return at if hand is None else place_of(program[hand][at])
 
 
-def is_put_only(program, doing):
-    """Whether a doing is a put or a give."""
-    hand, at = doing
-    return hand is not None and program[hand][at][0] in ("put", "give")
-
-
 def is_kept(program, rule, step):
     """Whether a machine with queues or lanes keeps a step, wherever the other doings of a circle are."""
     doing, word, target = step
     if word == "read":
         return doing[0] != target[0]
-    if word != "row" or not is_put_only(program, doing):
+    if word != "row" or program[doing[0]][doing[1]][0] not in ("put", "give"):
         return True
     row = program[target[0]][target[1]]
     if row[0] == "get":

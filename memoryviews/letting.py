@@ -80,8 +80,7 @@ def is_forbidden(program, rule, steps):
     """Whether the steps of a circle make it one against a rule."""
     words = [word for _, word, _ in steps]
     if rule == "views":
-        turns = [word for word in words if word in TURNS]
-        return len(turns) <= 1 and all([word in FREE or word in TURNS for word in words])
+        return len([word for word in words if word in TURNS]) <= 1
     if any([word not in PLAIN for word in words]):
         return False
     if rule == "one" or all([is_kept(program, rule, step) for step in steps]):

@@ -33,10 +33,8 @@ ENOUGH = {
     "lanes": ("puts", "both", "all"),
     "views": ("all",),
 }
-# three programs, each with an outcome that does not come by one: both hands read nothing; a later put is read
-# before an earlier one; what one hand reads of the first put is behind what the other one reads of the second
-SIGNS = ((("put", 0, 1), ("get", 0, 1)), (("put", 1, 1), ("get", 0, 0)))
-UNSEEN = (((0, 0, 0), (0, 0, 0)), (1, 1, 0, 0))
+# two programs, each with an outcome that does not come by one: a later put is read before an earlier one; and the
+# put of the first hand is read by the second one, which comes ahead of the third one, but not by the third one
 LETTERS = ((("put", 0, 1), ("put", 1, 1)), (("get", 0, 1), ("get", 1, 0)))
 LATE = (((0, 0, 0), (1, 0, 0)), (1, 1, 0, 0))
 SWAPPED = ((("put", 0, 1),), (("get", 0, 0), ("swap", 1, 1, 2)), (("put", 1, 1), ("get", 0, 0)))
@@ -138,19 +136,13 @@ def judge_scheme(scheme, rule):
     check_rule(rule)
     if scheme in ENOUGH[rule]:
         return Enough()
-    program, outcome = example_against(scheme, rule)
+    program, outcome = SWAPPED, PASSED
+    if rule == "lanes" and scheme == "gets":
+        # here the fences ahead of the gets are enough for the other program
+        program, outcome = LETTERS, LATE
     fenced = fenced_program(program, scheme)
     origins = explore(fenced, rule)
     return Against(program, run_to(origins, ends_of(fenced, rule, origins)[outcome]))
-
-
-def example_against(scheme, rule):
-    """A program and its outcome, which a scheme that is not enough does not keep from coming."""
-    if rule == "lanes" and scheme == "gets":
-        return LETTERS, LATE
-    if rule == "views" and scheme in ("puts", "gets", "both"):
-        return SWAPPED, PASSED
-    return SIGNS, UNSEEN
 
 
 def is_enough(scheme, rule):

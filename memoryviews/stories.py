@@ -56,12 +56,12 @@ def outcome_told(program, rule, story):
     """The same for what surely are a program and a rule."""
     if not has_form(story):
         return None
-    stands, worth, doings = follow_reads(program, story.reads)
+    stands, worth, done = follow_reads(program, story.reads)
     if any([at < len(rows) for (at, _), rows in zip(stands, program)]):
         return None
-    if not has_reads(program, story, doings) or not has_puts(program, story, worth):
+    if not has_reads(program, story, done) or not has_puts(program, story, worth):
         return None
-    if not has_fences(program, rule, story, doings):
+    if not has_fences(program, rule, story, done):
         return None
     return (tuple([held for _, held in stands]), tuple([worth[row[-1]][1] for row in story.puts]))
 
@@ -76,10 +76,10 @@ def has_form(story):
 
 
 def follow_reads(program, reads):
-    """How the hands stand, what was put where, and all doings, as far as nothing is read ahead of itself."""
+    """How the hands stand, what was put where, and all rows done, as far as nothing is read ahead of itself."""
     stands = [(0, NOTHING_HELD) for _ in program]
     worth = {(None, place): (place, 0) for place in range(PLACES)}
-    doings = []
+    done = []
     going = True
     while going:
         going = False
@@ -87,10 +87,9 @@ def follow_reads(program, reads):
             at = stands[hand][0]
             if at < len(rows) and is_ready(rows[at], reads.get((hand, at)), worth):
                 follow_row(rows[at], hand, reads, stands, worth)
+                done.append((hand, at))
                 going = True
-                if rows[at][0] != "only":
-                    doings.append((hand, at))
-    return stands, worth, doings
+    return stands, worth, done
 
 
 def is_ready(row, source, worth):
@@ -109,9 +108,9 @@ def follow_row(row, hand, reads, stands, worth):
     stands[hand] = stand_behind(stands[hand], row, got)
 
 
-def has_reads(program, story, doings):
+def has_reads(program, story, done):
     """Whether a story has reads for just the doings that get."""
-    return lists_all(list(story.reads), [(hand, at) for hand, at in doings if is_getting(program[hand][at])])
+    return lists_all(list(story.reads), [(hand, at) for hand, at in done if is_getting(program[hand][at])])
 
 
 def has_puts(program, story, worth):
@@ -127,14 +126,14 @@ def has_puts(program, story, worth):
     return True
 
 
-def has_fences(program, rule, story, doings):
+def has_fences(program, rule, story, done):
     """Whether a story has an order of just the fences done, in which those of each hand are in their order."""
-    done = sorted([(hand, at) for hand, at in doings if program[hand][at][0] == "fence"])
-    if not lists_all(list(story.fences), done):
+    fences = sorted([(hand, at) for hand, at in done if program[hand][at][0] == "fence"])
+    if not lists_all(list(story.fences), fences):
         return False
     if rule != "views":
-        return list(story.fences) == done
-    return sorted(story.fences, key=lambda doing: doing[0]) == done
+        return list(story.fences) == fences
+    return sorted(story.fences, key=lambda doing: doing[0]) == fences
 
 
 def chain_from(doing, swaps):

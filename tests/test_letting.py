@@ -95,6 +95,33 @@ class TestLetting(unittest.TestCase):
         other = Story({(0, 2): (None, 1), (1, 2): (0, 0)}, puts, ((0, 1), (1, 1)))
         self.assertEqual(exact_rules(program, other), list(RULES))
 
+    def test_a_circle_of_rows_reads_and_fences(self):
+        # what stands behind a fence is read ahead of a fence that comes before it
+        program = ((FENCE, ("put", 0, 1)), (("get", 0, 0), FENCE))
+        puts = (((None, 0), (0, 1)),) + FIRSTS[1:]
+        wrong = Story({(1, 0): (0, 1)}, puts, ((1, 1), (0, 0)))
+        circle = [((0, 0), "row"), ((0, 1), "read"), ((1, 0), "row"), ((1, 1), "fence")]
+        self.assertEqual(exact_rules(program, wrong), [])
+        self.assertIs(is_against(program, "views", wrong, circle), True)
+        for rule in RULES[:3]:
+            self.assertIs(is_against(program, rule, wrong, circle), False)
+        self.assertEqual(exact_rules(program, Story({(1, 0): (0, 1)}, puts, ((0, 0), (1, 1)))), list(RULES))
+        self.assertEqual(exact_rules(program, Story({(1, 0): (None, 0)}, puts, ((1, 1), (0, 0)))), ["views"])
+
+    def test_no_circles(self):
+        puts = (((None, 0), (0, 0)), ((None, 1), (1, 0)), ((None, 2),), ((None, 3),))
+        story = Story({(0, 1): (None, 1), (1, 1): (None, 0)}, puts, ())
+        circle = [((0, 0), "row"), ((0, 1), "past"), ((1, 0), "row"), ((1, 1), "past")]
+        self.assertIs(is_against(SIGNS, "one", story, circle), True)
+        self.assertIs(is_against(SIGNS, "one", story, circle[2:] + circle[:2]), True)
+        for wrong in ([], None, tuple(circle), circle[:2], circle[1:], circle + circle, circle[::-1], circle + [None],
+                      [((0, 0), "row"), ((0, 1), "past"), ((1, 0), "row"), ((1, 1), None)],
+                      [((0, 0), "row"), ((0, 1), "past"), ((1, 0), "row"), ((1, 1), ["past"])],
+                      [((0, 0), "row"), ((0, 1), "past"), ((True, 0), "row"), ((1, 1), "past")],
+                      [((0, 0), "row"), ((0, 1), "past"), ([1, 0], "row"), ((1, 1), "past")],
+                      [((0, 0), "row"), ((0, 1), "past"), ((1, 0), "row"), (1, "past")]):
+            self.assertIs(is_against(SIGNS, "one", story, wrong), False, wrong)
+
     def test_stories_are_not_changed(self):
         for story, _ in all_stories(SIGNS, "views"):
             before = parts(story)

@@ -93,6 +93,9 @@ class TestRooms(EvidenceChecks, unittest.TestCase):
         # more rooms than needed, although each run is by the rule
         more = Roomy(3, {0: lost[0], 1: lost[1], 2: lost[1]})
         self.assertFalse(more.shows(MESSAGE, "lanes"))
+        # fewer rooms than needed, although each lesser one loses something
+        self.assertFalse(Roomy(1, {0: lost[0]}).shows(MESSAGE, "lanes"))
+        self.assertFalse(Roomy(0, {}).shows(MESSAGE, "lanes"))
         low = Roomy(0, {})
         self.assertTrue(low.shows(MESSAGE, "queues"))
         low.number = False

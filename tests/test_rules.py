@@ -118,6 +118,9 @@ class TestRules(EvidenceChecks, unittest.TestCase):
             other.run = run
             self.assertIs(other.shows(MESSAGE, "lanes", "queues"), end_of_run(MESSAGE, "lanes", run) == LATE, run)
         self.assertFalse(beyond.shows(MESSAGE, "lanes", "lanes"))
+        # the states are right, but the run has an outcome that comes by the other rule, too
+        self.assertFalse(Beyond(runs[first], beyond.states).shows(MESSAGE, "lanes", "queues"))
+        self.assertTrue(Beyond(beyond.run, beyond.states).shows(MESSAGE, "lanes", "queues"))
         self.assertFalse(beyond.shows(MESSAGE, "lanes", "views"))
 
     def test_equality_and_copies(self):

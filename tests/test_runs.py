@@ -154,6 +154,17 @@ class TestOutcomes(EvidenceChecks, unittest.TestCase):
         self.check_equality(Outcomes({outcome: run}, [state]), Outcomes({outcome: list(run)}, (state,)), [
             Outcomes({}, [state]), Outcomes({outcome: run}, []), Outcomes({outcome: []}, [state]), Seen(run)])
 
+    def test_booleans_are_no_integers(self):
+        self.assertNotEqual(Never([(True,)]), Never([(1,)]))
+        self.assertNotEqual(Never([(0,)]), Never([(False,)]))
+        self.assertNotEqual(Never([(True,)]), Never([(False,)]))
+        self.assertEqual(Never([(True, 1)]), Never([(True, 1)]))
+        self.assertNotEqual(Outcomes({1: []}, []), Outcomes({True: []}, []))
+
+    def test_attributes_of_no_kind(self):
+        self.assertIs(Seen(None).shows(SIGNS, "queues", UNSEEN), False)
+        self.assertIs(Never(None).shows(SIGNS, "one", UNSEEN), False)
+
     def test_lists_and_tuples(self):
         run = [["do", 0, None], ["do", 1, None]]
         self.assertEqual(Seen(run).run, [("do", 0, None), ("do", 1, None)])

@@ -155,6 +155,19 @@ class TestStories(EvidenceChecks, unittest.TestCase):
         story.fences = ((0, 0),)
         self.assertIs(story_outcome(SIGNS, "one", story), None)
 
+    def test_attributes_of_no_kind(self):
+        for name, wrong in (
+            ("reads", None), ("reads", []), ("reads", {(0, 1): 1, (1, 1): (None, 0)}), ("reads", {**READS, 7: (None, 0)}),
+            ("reads", {(0, 1): None, (1, 1): (None, 0)}), ("reads", {(0, 1): [None, 1], (1, 1): (None, 0)}),
+            ("puts", None), ("puts", list(PUTS)), ("puts", PUTS[:3] + ([(None, 3)],)), ("puts", PUTS[:3] + (None,)),
+            ("puts", ((None, (0, 0)),) + PUTS[1:]), ("fences", None), ("fences", []), ("fences", {}),
+        ):
+            story = Story(READS, PUTS, ())
+            setattr(story, name, wrong)
+            self.assertIs(story_outcome(SIGNS, "one", story), None, wrong)
+        for thing in (None, 1, "story", READS, (READS, PUTS, ())):
+            self.assertIs(story_outcome(SIGNS, "one", thing), None)
+
     def test_lists_and_any_order(self):
         lists = [[list(doing) for doing in row] for row in PUTS]
         story = Story({(1, 1): [None, 0], (0, 1): [None, 1]}, lists, [[0, 2]])

@@ -7,7 +7,7 @@ from memoryviews.runs import Never
 from memoryviews.switches import Calmest, fewest_switches, judge_switches
 from tests.cases import BAD_OUTCOMES, BAD_PROGRAMS, BAD_RULES, EMPTIES, FULL, HUGE, LATE, MESSAGE, ONE_MORE, RULES, SIGNS
 from tests.cases import UNSEEN, EvidenceChecks, changed_runs, random_programs
-from tests.reference import end_of_run, reference_outcomes, reference_states, whole_runs
+from tests.reference import behind, end_of_run, reference_outcomes, reference_states, whole_runs
 
 NO = ((0, 0, 0),)
 ZERO = (0, 0, 0, 0)
@@ -110,6 +110,38 @@ class TestSwitches(EvidenceChecks, unittest.TestCase):
         for pair in ends:
             evidence.floors[pair] = 50
         self.check_shown(evidence, SIGNS, "queues", UNSEEN)
+
+    def test_floors_from_the_front(self):
+        # as many switches as there are at the least, less those that lead to a pair: these floors fit, too
+        for rule in RULES:
+            for outcome in reference_outcomes(SIGNS, rule):
+                evidence = judge_switches(SIGNS, rule, outcome)
+                machines = reference_states(SIGNS, rule)
+                first = next(iter(machines))
+                least = {(first, None): 0}
+                waiting = [(first, None)]
+                while waiting:
+                    state, hand = waiting.pop()
+                    for deed in machines[state].deeds():
+                        pair = (behind(machines[state], deed).name(), deed[1])
+                        number = least[(state, hand)] + (hand is not None and hand != deed[1])
+                        if number < least.get(pair, 99):
+                            least[pair] = number
+                            waiting.append(pair)
+                floors = {pair: evidence.number - least[pair] for pair in least}
+                for state, hand in floors:
+                    if machines[state].over() and machines[state].outcome() == outcome:
+                        floors[(state, hand)] = 0
+                high = {pair: max(0, floors[pair]) for pair in floors}
+                self.assertIs(Calmest(evidence.run, evidence.number, high).shows(SIGNS, rule, outcome), True)
+                negative = min(floors.values()) < 0
+                self.assertIs(Calmest(evidence.run, evidence.number, floors).shows(SIGNS, rule, outcome), not negative)
+                self.assertTrue(negative or evidence.number > 1)
+
+    def test_a_number_that_is_a_boolean(self):
+        evidence = judge_switches(EMPTIES, "one", (NO * 4, ZERO))
+        self.check_spoiled(evidence, "number", [False, None, 1, -1], EMPTIES, "one", (NO * 4, ZERO))
+        self.check_spoiled(evidence, "floors", [{pair: False for pair in evidence.floors}], EMPTIES, "one", (NO * 4, ZERO))
 
     def test_equality_and_copies(self):
         run, floors = [["do", 0, None]], {(("a",), None): 1}
