@@ -29,6 +29,7 @@ class Calmest:
         return self._has_floors(program, rule, outcome)
 
     def _has_floors(self, program, rule, outcome):
+        """Whether the floors are for just all pairs, and never higher than the switches that are needed."""
         pairs = pairs_of(program, rule)
         if not isinstance(self.floors, dict) or not lists_all(list(self.floors), pairs):
             return False

@@ -174,7 +174,7 @@ class TestForm(unittest.TestCase):
         for name, node in nodes((ast.FunctionDef, ast.ClassDef)):
             self.assertEqual(node.decorator_list, [], name)
             if not node.name.startswith("__"):
-                self.assertIsNotNone(ast.get_docstring(node) or node.name.startswith("_") or None, (name, node.name))
+                self.assertIsNotNone(ast.get_docstring(node), (name, node.name))
         for name, node in nodes(ast.FunctionDef):
             self.assertLessEqual(node.end_lineno - node.lineno + 1, 40, (name, node.name))
             self.assertIsNone(node.returns)
