@@ -160,6 +160,7 @@ class TestOutcomes(EvidenceChecks, unittest.TestCase):
         self.assertNotEqual(Never([(True,)]), Never([(False,)]))
         self.assertEqual(Never([(True, 1)]), Never([(True, 1)]))
         self.assertNotEqual(Outcomes({1: []}, []), Outcomes({True: []}, []))
+        self.assertNotEqual(Outcomes({1: []}, []), Outcomes({2: []}, []))
 
     def test_attributes_of_no_kind(self):
         self.assertIs(Seen(None).shows(SIGNS, "queues", UNSEEN), False)

@@ -176,6 +176,10 @@ class TestStories(EvidenceChecks, unittest.TestCase):
         self.assertEqual(story, Story(READS, PUTS, ((0, 2),)))
         self.assertEqual(story_outcome(SIGNS, "one", Story(READS, lists, [])), UNSEEN)
 
+    def test_none_is_ahead_of_all_numbers(self):
+        story = Story({(1, 0): (0, 0), (0, 0): (0, 0), (None, 3): (0, 0), (0, None): (0, 0)}, PUTS, ())
+        self.assertEqual(list(story.reads), [(None, 3), (0, None), (0, 0), (1, 0)])
+
     def test_equality_and_copies(self):
         reads = dict(READS)
         story = Story(reads, PUTS, ())
