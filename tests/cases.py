@@ -104,6 +104,27 @@ BAD_OUTCOMES = ANYTHING + [
     (((None, 0, 0), HELD), THERE), ((HELD, HELD), ("0", 0, 0, 0)), ((HELD, HELD), None), (None, THERE), (HELD, HELD),
 ]
 
+# none of them is one of prices for gaps of two hands with two rows each
+BAD_PRICES = ANYTHING + [
+    {gap: 3} for gap in (
+        None, 0, True, "01", b"01", (), (0,), (0, 1, 1), (0, 3), (2, 0), (-1, 0), (0, -1), (True, 0), (0, True), (False, 0),
+        (0, False), (None, 0), (0, None), ("0", 1), (0, "1"), ((0,), 1), (0, (1,)), ((0, 1), (1, 1)), frozenset((0, 1)),
+        (10 ** 30, 0), (0, 10 ** 30),
+    )
+] + [{(0, 1): price} for price in (None, True, False, 0, 10, -1, 10 ** 30, "3", b"3", [3], (3,), {3: 3}, Odd(), Odd)] + [
+    {(0, 1): 3, (1, 3): 1}, {(0, 1): 3, (1, 1): 0}, {(0, 1): 3, None: 3}, {(0, 1): 3, (1, 1): True},
+    {(0, 0): 1, (0, 1): 1, (0, 2): 1, (1, 0): 1, (1, 1): 1}, [((0, 1), 3)], (((0, 1), 3),), [(0, 1)], ((0, 1), 3), {(0, 1)},
+]
+# none of them is a row that can be exchanged
+FIXED_ROWS = ANYTHING + BAD_ROWS + [
+    ("put", 0, 0), ("swap", 0, 0, 0), ("only", 0, 0, 1), ("only", 2, 3, 16), (("fence",),), ["put", 0, 1], ["get", 0, 1],
+]
+
+
+def parts(story):
+    """A story as a triple of its reads in ascending order, its puts, and its fences."""
+    return (tuple(sorted(story.reads.items())), story.puts, story.fences)
+
 
 def random_hand(source, many, places):
     """A hand of so many rows."""

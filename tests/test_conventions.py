@@ -42,6 +42,13 @@ FUNCTIONS = {
         "count_let(program, rule)",
     ),
     "races": ("judge_race(program)", "is_raceless(program)", "races_of(program)"),
+    "lines": ("judge_lines(program, rule)", "is_as_by_one(program, rule)"),
+    "fencing": (
+        "cheapest_fences(program, rule, prices)", "least_cost(program, rule, prices)", "with_fences(program, choice)",
+    ),
+    "changes": ("exchange(rule, one, other)", "leave_out(rule, one, other)", "is_harmless(rule, one, other, leaving)"),
+    "twins": ("compare(one, other, rule)", "are_twins(one, other, rule)"),
+    "texts": ("program_text(program)", "read_program(text)"),
 }
 CLASSES = {
     "runs": {"Seen(run)": "(program, rule, outcome)", "Never(states)": "(program, rule, outcome)",
@@ -54,6 +61,11 @@ CLASSES = {
     "logs": {"Let(run)": "(log, rule)", "Unlet(states)": "(log, rule)"},
     "telling": {"Told(story)": "(program, rule, outcome)", "Barred(rows)": "(program, rule, outcome)"},
     "races": {"Race(run, hands)": "(program)", "Raceless(states)": "(program)"},
+    "lines": {"Lined(lines)": "(program, rule)", "Loose(story, circle)": "(program, rule)"},
+    "fencing": {"Cheapest(choice, lines, against)": "(program, rule, prices)",
+                "Unfenced(against)": "(program, rule, prices)"},
+    "changes": {"Harm(program, at, outcome)": "(rule, one, other, leaving)"},
+    "twins": {"Parted(outcome, which, run)": "(one, other, rule)"},
 }
 DESK = {
     "state": "(self)", "deeds": "(self)", "journal": "(self)", "is_over": "(self)", "outcome": "(self)",
@@ -65,7 +77,9 @@ STORY = Story({(0, 1): (None, 1), (1, 1): (None, 0)},
 ATTRIBUTES = {
     "run": [("do", 0, None)], "states": [(((0, (0, 0, 0)),), (0, 0, 0, 0), None)], "runs": {1: [("do", 0, None)]},
     "number": 3, "lost": {0: [("do", 0, None)]}, "program": MESSAGE, "floors": {(1, None): 0}, "story": STORY,
-    "rows": [(STORY, [((0, 0), "row"), ((0, 1), "past")])], "hands": (0, 1),
+    "rows": [(STORY, [((0, 0), "row"), ((0, 1), "past")])], "hands": (0, 1), "lines": [(STORY, [(0, 0), (0, 1)])],
+    "circle": [((0, 0), "row"), ((0, 1), "past")], "choice": ((0, 1),),
+    "against": {(): (STORY, [((0, 0), "row"), ((0, 1), "past")])}, "at": 0, "outcome": LATE, "which": 1,
 }
 LOG = ((("put", 0, 1), ("got", 1, 0)), (("put", 1, 1), ("got", 0, 0)))
 # for each kind of argument a good one, and the error that a wrong one raises
@@ -73,8 +87,13 @@ KINDS = {
     "program": (SIGNS, errors.BadProgram), "rule": ("queues", errors.BadRule), "one": ("queues", errors.BadRule),
     "other": ("lanes", errors.BadRule), "run": ([("do", 0, None)], errors.BadRun), "log": (LOG, errors.BadLog),
     "outcome": (LATE, errors.BadOutcome), "wish": (((0, 0), (1, 0)), errors.BadWish), "room": (1, errors.BadRoom),
-    "scheme": ("puts", errors.BadScheme), "story": (STORY, None), "thing": (SIGNS, None),
+    "scheme": ("puts", errors.BadScheme), "story": (STORY, None), "thing": (SIGNS, None), "leaving": (False, None),
+    "prices": ({(0, 1): 3}, errors.BadPrices), "row": (("put", 0, 1), errors.BadRows), "text": ("fence\n", errors.BadText),
 }
+# arguments that are of another kind than their names tell
+OTHER_KINDS = {"changes": {"one": "row", "other": "row"}, "twins": {"one": "program", "other": "program"}}
+# functions that are called with right arguments only
+UNCHECKED = ("together", "with_fences")
 
 
 def split(signature):
@@ -83,17 +102,23 @@ def split(signature):
     return name, [part for part in rest.split(", ") if part]
 
 
+def kinds_of(module, arguments):
+    """The kinds of arguments of a module."""
+    others = OTHER_KINDS.get(module, {})
+    return [others.get(name, name) for name in arguments]
+
+
 def all_functions():
-    """All listed functions with their arguments, and `shows` of an object of each class."""
+    """All listed functions with the kinds of their arguments, and `shows` of an object of each class."""
     found = []
     for module, signatures in FUNCTIONS.items():
         for signature in signatures:
             name, arguments = split(signature)
-            if name != "together":
-                found.append((getattr(import_module("memoryviews." + module), name), arguments))
+            if name not in UNCHECKED:
+                found.append((getattr(import_module("memoryviews." + module), name), kinds_of(module, arguments)))
     for module, classes in CLASSES.items():
         for signature, shows in classes.items():
-            found.append((made(module, signature).shows, split(shows)[1]))
+            found.append((made(module, signature).shows, kinds_of(module, split(shows)[1])))
     return found
 
 
@@ -104,7 +129,7 @@ def made(module, signature):
 
 def is_good(kind, thing):
     """Whether one of the values in ANYTHING is right for an argument of this kind."""
-    return kind in ("thing", "story") or (kind == "room" and type(thing) is int and thing in (0, 1)) or (
+    return kind in ("thing", "story", "leaving") or (kind == "room" and type(thing) is int and thing in (0, 1)) or (
         kind == "run" and isinstance(thing, (list, tuple)))
 
 
@@ -244,14 +269,17 @@ class TestEquality(unittest.TestCase):
         for module, signature, attribute in (
             ("runs", "Outcomes(runs, states)", "runs"), ("rules", "Within(runs)", "runs"),
             ("rooms", "Roomy(number, lost)", "lost"), ("telling", "Barred(rows)", "rows"),
+            ("lines", "Lined(lines)", "lines"), ("fencing", "Cheapest(choice, lines, against)", "lines"),
+            ("fencing", "Cheapest(choice, lines, against)", "against"), ("fencing", "Unfenced(against)", "against"),
         ):
             name, attributes = split(signature)
             kind = getattr(import_module("memoryviews." + module), name)
             given = {part: deepcopy(ATTRIBUTES[part]) for part in attributes}
             evidence = kind(*given.values())
-            if attribute == "rows":
-                given["rows"][0][1].clear()
-                given["rows"][0][0].reads.clear()
+            if attribute in ("rows", "lines", "against"):
+                story, things = given[attribute][() if attribute == "against" else 0]
+                story.reads.clear()
+                things.clear()
             else:
                 next(iter(given[attribute].values())).clear()
             self.assertEqual(evidence, made(module, signature))

@@ -93,6 +93,54 @@ RACES = """
 [True, [], [(0, 1)], True]
 """
 
+LINES = """
+>>> from memoryviews.lines import Lined, Loose, is_as_by_one, judge_lines
+>>> program = ((('put', 0, 1), ('get', 0, 1)), (('put', 1, 1), ('get', 0, 0)))
+>>> [is_as_by_one(program, rule) for rule in ('one', 'queues', 'lanes', 'views')]
+[True, False, False, False]
+>>> [len(judge_lines(program, 'one').lines), judge_lines(program, 'views').shows(program, 'views')]
+[3, True]
+"""
+
+FENCING = """
+>>> from memoryviews.fencing import cheapest_fences, least_cost, with_fences
+>>> program = ((('put', 0, 1), ('get', 0, 1)), (('put', 1, 1), ('get', 0, 0)))
+>>> prices = {(0, 1): 3, (1, 1): 2, (0, 2): 1}
+>>> [least_cost(program, rule, prices) for rule in ('one', 'queues', 'lanes', 'views')]
+[0, 5, 5, 5]
+>>> [cheapest_fences(program, 'queues', prices).choice, len(cheapest_fences(program, 'queues', prices).against), with_fences(program, ((1, 1),))[1]]
+[((0, 1), (1, 1)), 6, (('put', 1, 1), ('fence',), ('get', 0, 0))]
+"""
+
+CHANGES = """
+>>> from memoryviews.changes import exchange, is_harmless, leave_out
+>>> put, get = ('put', 0, 1), ('get', 0, 1)
+>>> [is_harmless(rule, put, get, False) for rule in ('one', 'queues', 'lanes', 'views')]
+[False, True, True, True]
+>>> [is_harmless(rule, ('fence',), put, False) for rule in ('one', 'queues', 'lanes', 'views')]
+[True, True, False, False]
+>>> [exchange('views', get, put).shows('views', get, put, False), leave_out('lanes', ('fence',), ('swap', 0, 0, 1)), leave_out('views', put, get).shows('views', put, get, True)]
+[True, None, True]
+"""
+
+TWINS = """
+>>> from memoryviews.twins import are_twins, compare
+>>> one, other = ((('put', 0, 1), ('put', 1, 1)), (('get', 0, 1), ('get', 1, 0))), ((('put', 1, 1), ('put', 0, 1)), (('get', 0, 1), ('get', 1, 0)))
+>>> [are_twins(one, other, rule) for rule in ('one', 'queues', 'lanes', 'views')]
+[False, False, True, False]
+>>> compare(one, other, 'queues').outcome
+(((0, 0, 0), (1, 0, 0)), (1, 1, 0, 0))
+"""
+
+TEXTS = r"""
+>>> from memoryviews.texts import program_text, read_program
+>>> program = ((('put', 0, 1), ('fence',), ('get', 0, 1)), (), (('swap', 2, 1, 3), ('only', 2, 0, 1), ('give', 3, 2)))
+>>> program_text(program) == 'put 0 = 1; fence; r0 = get 1\n\nr2 = swap 1 = 3; only r2 = 0: 1; give 3 = r2\n'
+True
+>>> read_program(program_text(program)) == program
+True
+"""
+
 EXAMPLES = {
     "runs": RUNS,
     "rooms": ROOMS,
@@ -102,6 +150,11 @@ EXAMPLES = {
     "letting": LETTING,
     "telling": TELLING,
     "races": RACES,
+    "lines": LINES,
+    "fencing": FENCING,
+    "changes": CHANGES,
+    "twins": TWINS,
+    "texts": TEXTS,
 }
 
 

@@ -7,7 +7,7 @@ import re
 import unittest
 
 PACKAGE = os.path.join(os.path.dirname(os.path.dirname(os.path.abspath(__file__))), "memoryviews")
-LIBRARY = {"math": {"factorial"}, "itertools": {"permutations", "product"}}
+LIBRARY = {"math": {"factorial"}, "itertools": {"combinations", "permutations", "product"}}
 BUILTINS = {
     "len", "range", "enumerate", "zip", "min", "max", "sum", "abs", "sorted", "reversed", "int", "str", "bool", "list",
     "tuple", "dict", "set", "isinstance", "any", "all", "ValueError", "super",
@@ -182,7 +182,7 @@ class TestForm(unittest.TestCase):
                 self.assertIsNone(argument.annotation)
             self.assertFalse(node.args.vararg or node.args.kwarg or node.args.kwonlyargs or node.args.posonlyargs)
         for name, node in nodes((ast.AsyncFunctionDef, ast.Yield, ast.YieldFrom, ast.Await, ast.Global, ast.Nonlocal,
-                                 ast.With, ast.Match, ast.AnnAssign, ast.GeneratorExp, ast.JoinedStr, ast.Starred)):
+                                 ast.With, ast.Match, ast.AnnAssign, ast.GeneratorExp, ast.Starred)):
             self.fail((name, node.lineno))
         for name, node in nodes(ast.stmt):
             if not isinstance(node, (ast.ImportFrom, ast.ClassDef)):
@@ -209,6 +209,9 @@ class TestForm(unittest.TestCase):
             self.assertIsInstance(node.value, (int, str, bool, type(None)), name)
             if isinstance(node.value, str):
                 self.assertNotRegex(node.value, r"%|__|\\")
+        for name, node in nodes(ast.FormattedValue):
+            self.assertIsInstance(node.value, (ast.Name, ast.Subscript), (name, node.lineno))
+            self.assertEqual((node.conversion, node.format_spec), (-1, None), (name, node.lineno))
         for name, node in nodes((ast.Div, ast.Pow, ast.Mod, ast.MatMult)):
             self.fail(name)
         for name, node in nodes(ast.Compare):

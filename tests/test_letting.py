@@ -5,14 +5,10 @@ import unittest
 from memoryviews.errors import BadProgram, BadRule
 from memoryviews.letting import circle_against, is_against, is_let
 from memoryviews.stories import Story, all_stories
-from tests.cases import BAD_PROGRAMS, BAD_RULES, FENCE, FOUR, HUGE_FOUR, MESSAGE, RULES, SIGNS, random_programs
+from tests.cases import BAD_PROGRAMS, BAD_RULES, FENCE, FOUR, HUGE_FOUR, MESSAGE, RULES, SIGNS, parts, random_programs
 from tests.reference import bars, reference_circles, reference_stories
 
 FIRSTS = tuple(((None, place),) for place in range(4))
-
-
-def parts(story):
-    return (tuple(sorted(story.reads.items())), story.puts, story.fences)
 
 
 def exact_rules(program, story):

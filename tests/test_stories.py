@@ -5,17 +5,13 @@ import unittest
 from memoryviews.errors import BadProgram, BadRule, TooLarge
 from memoryviews.stories import Story, all_stories, count_stories, story_outcome
 from tests.cases import BAD_PROGRAMS, BAD_RULES, EMPTIES, EMPTY, EVERY, FENCE, LONG, MESSAGE, RULES, SIGNS, STORIES_600
-from tests.cases import STORIES_601, UNSEEN, EvidenceChecks, random_programs
+from tests.cases import STORIES_601, UNSEEN, EvidenceChecks, parts, random_programs
 from tests.reference import reference_stories
 
 SWAPS = ((("swap", 0, 0, 1), FENCE), (("swap", 0, 0, 2), FENCE), (("put", 0, 3),))
 FIRSTS = tuple(((None, place),) for place in range(4))
 READS = {(0, 1): (None, 1), (1, 1): (None, 0)}
 PUTS = (((None, 0), (0, 0)), ((None, 1), (1, 0)), ((None, 2),), ((None, 3),))
-
-
-def parts(story):
-    return (tuple(sorted(story.reads.items())), story.puts, story.fences)
 
 
 def made(triple):

@@ -8,16 +8,12 @@ from memoryviews.runs import outcomes
 from memoryviews.stories import Story, story_outcome
 from memoryviews.telling import Barred, Told, count_let, is_told, judge_story, outcomes_told
 from tests.cases import BAD_OUTCOMES, BAD_PROGRAMS, BAD_RULES, EMPTIES, EMPTY, EVERY, FOUR, LATE, LONG, MESSAGE, RULES
-from tests.cases import SIGNS, STORIES_600, STORIES_601, UNSEEN, EvidenceChecks, random_programs
+from tests.cases import SIGNS, STORIES_600, STORIES_601, UNSEEN, EvidenceChecks, parts, random_programs
 from tests.reference import bars, reference_circles, reference_stories
 
 ROW = ((("put", 0, 1), ("get", 0, 1)),)
 STORY = Story({(0, 1): (None, 1)}, (((None, 0), (0, 0)), ((None, 1),), ((None, 2),), ((None, 3),)), ())
 CIRCLE = [((0, 0), "row"), ((0, 1), "past")]
-
-
-def parts(story):
-    return (tuple(sorted(story.reads.items())), story.puts, story.fences)
 
 
 class TestTelling(EvidenceChecks, unittest.TestCase):
