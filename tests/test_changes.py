@@ -208,6 +208,23 @@ class TestHarm(EvidenceChecks, unittest.TestCase):
         self.assertTrue(Harm(twice, 3, gone).shows("one", PUT, GET, True))
         self.assertFalse(Harm(twice, 0, gone).shows("one", PUT, GET, True))
 
+    def test_the_rows_behind_stay(self):
+        # each of the rows behind is done once, as before
+        program = ((PUT, ("get", 1, 0), ("swap", 0, 2, 1), ("put", 0, 2), ("swap", 2, 3, 3)),)
+        for leaving in (True, False):
+            evidence = Harm(program, 0, (((0, 0, 0),), (2, 0, 1, 3)))
+            self.assertEqual(has_outcome("one", evidence, leaving), [True, False])
+            for rule in RULES:
+                self.assertIs(evidence.shows(rule, PUT, ("get", 1, 0), leaving), True)
+                self.assertIs(evidence.shows(rule, PUT, ("get", 1, 1), leaving), False)
+        # the last row gets what the first one put, unless this is left out
+        rows = (("swap", 0, 0, 1), ("swap", 1, 1, 1), ("swap", 1, 0, 2))
+        for leaving, held in ((True, (0, 0, 0)), (False, (0, 1, 0))):
+            evidence = Harm((rows,), 0, ((held,), (2, 1, 0, 0)))
+            self.assertEqual(has_outcome("one", evidence, leaving), [True, not leaving])
+            for rule in RULES:
+                self.assertIs(evidence.shows(rule, rows[0], rows[1], leaving), leaving)
+
     def test_in_the_first_hand_alone(self):
         program = ((PUT, GET), (("put", 1, 1), ("get", 0, 0)))
         outcome = (((0, 0, 0), (0, 0, 0)), (1, 1, 0, 0))

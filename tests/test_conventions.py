@@ -177,7 +177,9 @@ class TestWrongArguments(unittest.TestCase):
                     if not is_good(kind, wrong):
                         given = [KINDS[name][0] for name in arguments]
                         given[at] = wrong
+                        before = repr(given)
                         self.assertRaises(error, function, *given)
+                        self.assertEqual(repr(given), before)
 
     def test_two_wrong_arguments(self):
         for function, arguments in all_functions():

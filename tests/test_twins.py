@@ -101,6 +101,14 @@ class TestTwins(EvidenceChecks, unittest.TestCase):
             evidence.which = 1 - which
             self.assertTrue(evidence.shows(other, one, rule))
 
+    def test_a_run_that_is_not_whole(self):
+        for run in ([], [("do", 1, None)], [("do", 0, None), ("do", 0, None)], None, [None]):
+            evidence = compare(MESSAGE, TURNED, "queues")
+            evidence.run = run
+            self.assertFalse(evidence.shows(MESSAGE, TURNED, "queues"))
+            evidence.outcome = None
+            self.assertFalse(evidence.shows(MESSAGE, TURNED, "queues"))
+
     def test_an_outcome_of_both(self):
         run = [("do", 0, None), ("do", 0, None), ("do", 1, None), ("do", 1, None)]
         outcome = end_of_run(MESSAGE, "one", run)
