@@ -3,7 +3,7 @@
 from memoryviews.errors import BadRows, TooLarge
 from memoryviews.exploring import ends_of, explore
 from memoryviews.machines import check_rule
-from memoryviews.programs import NOTHING_HELD, PLACES, is_getting, is_program, is_row, place_of
+from memoryviews.programs import NOTHING_HELD, PLACES, is_getting, is_program, is_row, place_of, slot_of
 from memoryviews.values import frozen, is_between, same
 
 PUTS = ("put", "give")
@@ -131,13 +131,6 @@ def new_outcomes(rule, program, other):
         return [outcome for outcome in ends_of(other, rule, explore(other, rule)) if outcome not in ends]
     except TooLarge:
         return []
-
-
-def slot_of(row):
-    """The register of a row, None if it has none."""
-    if row[0] == "give":
-        return row[2]
-    return row[1] if is_getting(row) else None
 
 
 def named_first(named, many):

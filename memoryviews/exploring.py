@@ -34,6 +34,15 @@ def explore(program, rule, room=None):
     return explored(start_of(program, rule), lambda state: steps_in(program, rule, state, room))
 
 
+def never_comes(program, rule, outcome):
+    """Whether not too many states come about, and none of them is over with an outcome."""
+    try:
+        origins = explore(program, rule)
+    except TooLarge:
+        return False
+    return outcome not in ends_of(program, rule, origins)
+
+
 def run_to(origins, state):
     """A run to one of the states that come about."""
     deeds = []

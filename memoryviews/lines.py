@@ -4,7 +4,7 @@ from memoryviews.circles import doings_of, steps_between
 from memoryviews.letting import PLAIN, circle_against, is_against
 from memoryviews.stories import copy_of, count_stories, outcome_told
 from memoryviews.telling import let_by, mark_of, stories_by
-from memoryviews.values import is_tuple_of, listed, lists_all, same
+from memoryviews.values import in_line, is_tuple_of, listed, lists_all, same
 
 
 class Lined:
@@ -78,21 +78,10 @@ def plain_steps(story):
 
 def line_of(story):
     """A line of all doings of a story that has no circle against one."""
-    missing = {doing: 0 for doing in doings_of(story)}
-    targets = {doing: [] for doing in missing}
+    targets = {doing: [] for doing in doings_of(story)}
     for doing, target in plain_steps(story):
-        missing[target] += 1
         targets[doing].append(target)
-    line = []
-    ready = [doing for doing in missing if missing[doing] == 0]
-    while ready:
-        doing = ready.pop()
-        line.append(doing)
-        for target in targets[doing]:
-            missing[target] -= 1
-            if missing[target] == 0:
-                ready.append(target)
-    return line
+    return in_line(targets)
 
 
 def judge_lines(program, rule):

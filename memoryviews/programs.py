@@ -1,6 +1,6 @@
 """Programs and their rows."""
 
-from memoryviews.errors import BadOutcome, BadProgram
+from memoryviews.errors import BadHand, BadOutcome, BadProgram
 from memoryviews.values import has_numbers, is_between, is_tuple_of, is_worded
 
 HANDS = 4
@@ -62,6 +62,13 @@ def place_of(row):
     return None
 
 
+def slot_of(row):
+    """The number of the register of a row, None if it has none."""
+    if row[0] == "give":
+        return row[2]
+    return row[1] if row[0] in ("get", "swap", "only") else None
+
+
 def is_putting(row):
     """Whether a row puts."""
     return row[0] in ("put", "give", "swap")
@@ -87,6 +94,12 @@ def is_held(thing):
 def is_there(thing):
     """Whether a value is what can be at the four places."""
     return is_tuple_of(thing, PLACES) and all([is_between(value, 0, HIGHEST_VALUE) for value in thing])
+
+
+def check_hand(program, hand):
+    """Raise BadHand for what is not the number of a hand."""
+    if not is_between(hand, 0, len(program) - 1):
+        raise BadHand("no number of a hand")
 
 
 def check_outcome(program, outcome):

@@ -1,7 +1,7 @@
 """Schemes of fences."""
 
-from memoryviews.errors import BadProgram, BadScheme, TooLarge
-from memoryviews.exploring import end_behind, ends_of, explore, run_to
+from memoryviews.errors import BadProgram, BadScheme
+from memoryviews.exploring import end_behind, ends_of, explore, never_comes, run_to
 from memoryviews.machines import check_rule
 from memoryviews.programs import is_program
 from memoryviews.values import frozen, listed, same
@@ -71,21 +71,12 @@ class Against:
         if not is_short(self.program):
             return False
         outcome = end_behind(fenced_program(self.program, scheme), rule, self.run)
-        return outcome is not None and is_not_by_one(self.program, outcome)
+        return outcome is not None and never_comes(self.program, "one", outcome)
 
 
 def is_short(thing):
     """Whether a value is a program into which a scheme can put fences."""
     return is_program(thing) and all([len(hand) <= MOST_ROWS for hand in thing])
-
-
-def is_not_by_one(program, outcome):
-    """Whether at most 3000 states come about by one, none of which is over with the outcome."""
-    try:
-        origins = explore(program, "one")
-    except TooLarge:
-        return False
-    return outcome not in ends_of(program, "one", origins)
 
 
 def check_scheme(scheme):

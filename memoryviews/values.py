@@ -69,8 +69,26 @@ def listed(things):
 
 
 def run_table(runs):
-    """A copy of a dict to runs, with a new list for each."""
+    """A copy of a dict to runs or other lists, with a new list for each."""
     return {name: listed(runs[name]) for name in runs}
+
+
+def in_line(targets):
+    """A list of all keys of a dict to lists of keys, each of them ahead of those in its list, if there is no circle."""
+    missing = {thing: 0 for thing in targets}
+    for thing in targets:
+        for target in targets[thing]:
+            missing[target] += 1
+    line = []
+    ready = [thing for thing in missing if missing[thing] == 0]
+    while ready:
+        thing = ready.pop()
+        line.append(thing)
+        for target in targets[thing]:
+            missing[target] -= 1
+            if missing[target] == 0:
+                ready.append(target)
+    return line
 
 
 def lists_all(things, known):

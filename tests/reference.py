@@ -15,8 +15,8 @@ class Message:
 class Machine:
     """A mutable machine; `name` gives the state as the document writes it."""
 
-    def __init__(self, program, rule, room=None):
-        self.program, self.rule, self.room = program, rule, room
+    def __init__(self, program, rule, room=None, depth=None):
+        self.program, self.rule, self.room, self.depth = program, rule, room, depth
         self.at = [0] * len(program)
         self.held = [[0, 0, 0] for _ in program]
         self.there = [0] * 4
@@ -65,10 +65,12 @@ class Machine:
             place = row[1] if word in ("put", "give") else row[2]
             messages = self.rows[place]
             seen = messages.index(self.views[hand][place])
+            ends = [at for at in range(len(messages)) if at >= seen]
+            if self.depth is not None:
+                ends = [at for at in ends if messages[at] in messages[-self.depth:]]
             if word == "get":
-                return [at for at in range(len(messages)) if at >= seen]
+                return ends
             if word == "swap":
-                ends = [at for at in range(len(messages)) if at >= seen]
                 return [at for at in ends if at + 1 == len(messages) or messages[at + 1].tied is False]
             ends = [at for at in range(len(messages) + 1) if at > seen]
             return [at for at in ends if at == len(messages) or messages[at].tied is False]
@@ -138,9 +140,9 @@ def behind(machine, deed):
     return other
 
 
-def reference_states(program, rule, room=None):
+def reference_states(program, rule, room=None, depth=None):
     """A dict from all states that come about to a machine in each."""
-    first = Machine(program, rule, room)
+    first = Machine(program, rule, room, depth)
     found = {first.name(): first}
     waiting = [first]
     while waiting:
@@ -153,9 +155,9 @@ def reference_states(program, rule, room=None):
     return found
 
 
-def reference_outcomes(program, rule, room=None):
+def reference_outcomes(program, rule, room=None, depth=None):
     """The ascending list of all outcomes."""
-    machines = reference_states(program, rule, room).values()
+    machines = reference_states(program, rule, room, depth).values()
     return sorted({machine.outcome() for machine in machines if machine.over()})
 
 

@@ -49,6 +49,21 @@ FUNCTIONS = {
     "changes": ("exchange(rule, one, other)", "leave_out(rule, one, other)", "is_harmless(rule, one, other, leaving)"),
     "twins": ("compare(one, other, rule)", "are_twins(one, other, rule)"),
     "texts": ("program_text(program)", "read_program(text)"),
+    "knowing": (
+        "judge_knowing(program, rule, hand, stand)", "least_rows(program, rule, hand, stand)",
+        "stands_of(program, rule, hand)",
+    ),
+    "turning": (
+        "open_outcomes(program, rule, run)", "judge_turn(program, rule, run)", "turn_of(program, rule, run)",
+    ),
+    "merging": (
+        "merged(program, one, other)", "merged_outcome(program, one, other, outcome)",
+        "judge_merging(program, one, other, rule)", "is_narrower(program, one, other, rule)", "always_narrower(rule)",
+    ),
+    "depths": ("outcomes_within(program, depth)", "judge_depth(program)", "least_depth(program)"),
+    "compiling": (
+        "judge_keeping(scheme, rule, goal)", "is_kept(scheme, rule, goal)", "keeping_schemes(rule, goal)",
+    ),
 }
 CLASSES = {
     "runs": {"Seen(run)": "(program, rule, outcome)", "Never(states)": "(program, rule, outcome)",
@@ -66,6 +81,11 @@ CLASSES = {
                 "Unfenced(against)": "(program, rule, prices)"},
     "changes": {"Harm(program, at, outcome)": "(rule, one, other, leaving)"},
     "twins": {"Parted(outcome, which, run)": "(one, other, rule)"},
+    "knowing": {"Known(rows, runs)": "(program, rule, hand, stand)", "NoStand(states)": "(program, rule, hand, stand)"},
+    "turning": {"Turn(number, other, states)": "(program, rule, run)"},
+    "merging": {"Narrower(runs)": "(program, one, other, rule)", "Wider(run, states)": "(program, one, other, rule)"},
+    "depths": {"Deep(number, lost)": "(program)"},
+    "compiling": {"Kept()": "(scheme, rule, goal)", "Leaked(program, run)": "(scheme, rule, goal)"},
 }
 DESK = {
     "state": "(self)", "deeds": "(self)", "journal": "(self)", "is_over": "(self)", "outcome": "(self)",
@@ -80,6 +100,11 @@ ATTRIBUTES = {
     "rows": [(STORY, [((0, 0), "row"), ((0, 1), "past")])], "hands": (0, 1), "lines": [(STORY, [(0, 0), (0, 1)])],
     "circle": [((0, 0), "row"), ((0, 1), "past")], "choice": ((0, 1),),
     "against": {(): (STORY, [((0, 0), "row"), ((0, 1), "past")])}, "at": 0, "outcome": LATE, "which": 1,
+    "other": [("do", 1, None)],
+}
+# attributes that are of another kind in some modules
+OTHER_ATTRIBUTES = {
+    "knowing": {"rows": (0, 1), "runs": ([("do", 0, None)], [])},
 }
 LOG = ((("put", 0, 1), ("got", 1, 0)), (("put", 1, 1), ("got", 0, 0)))
 # for each kind of argument a good one, and the error that a wrong one raises
@@ -89,11 +114,21 @@ KINDS = {
     "outcome": (LATE, errors.BadOutcome), "wish": (((0, 0), (1, 0)), errors.BadWish), "room": (1, errors.BadRoom),
     "scheme": ("puts", errors.BadScheme), "story": (STORY, None), "thing": (SIGNS, None), "leaving": (False, None),
     "prices": ({(0, 1): 3}, errors.BadPrices), "row": (("put", 0, 1), errors.BadRows), "text": ("fence\n", errors.BadText),
+    "hand": (0, errors.BadHand), "behind": (1, errors.BadHand), "stand": ((1, (0, 0, 0)), errors.BadStand),
+    "whole": ([("do", 0, None)] * 2 + [("move", 0)] + [("do", 1, None)] * 2 + [("move", 1)], errors.BadRun),
+    "apart": (MESSAGE, errors.BadProgram), "depth": (2, errors.BadDepth), "goal": ("one", errors.BadRule),
+    "has_fences": (True, None), "hands": ((1, 0), errors.BadOrder),
 }
 # arguments that are of another kind than their names tell
-OTHER_KINDS = {"changes": {"one": "row", "other": "row"}, "twins": {"one": "program", "other": "program"}}
+OTHER_KINDS = {
+    "changes": {"one": "row", "other": "row"}, "twins": {"one": "program", "other": "program"},
+    "merging": {"program": "apart", "one": "hand", "other": "behind"},
+}
+WHOLE = ("judge_turn", "turn_of", "shows")
 # functions that are called with right arguments only
-UNCHECKED = ("together", "with_fences")
+UNCHECKED = ("together", "with_fences", "keeping")
+# modules that have conditions which the large programs do not fulfill
+CONDITIONED = ("schemes", "merging", "sections", "parrying")
 
 
 def split(signature):
@@ -102,9 +137,11 @@ def split(signature):
     return name, [part for part in rest.split(", ") if part]
 
 
-def kinds_of(module, arguments):
-    """The kinds of arguments of a module."""
+def kinds_of(module, function, arguments):
+    """The kinds of arguments of a function of a module."""
     others = OTHER_KINDS.get(module, {})
+    if module == "turning" and function in WHOLE:
+        others = {"run": "whole"}
     return [others.get(name, name) for name in arguments]
 
 
@@ -115,22 +152,30 @@ def all_functions():
         for signature in signatures:
             name, arguments = split(signature)
             if name not in UNCHECKED:
-                found.append((getattr(import_module("memoryviews." + module), name), kinds_of(module, arguments)))
+                found.append((getattr(import_module("memoryviews." + module), name), kinds_of(module, name, arguments)))
     for module, classes in CLASSES.items():
         for signature, shows in classes.items():
-            found.append((made(module, signature).shows, kinds_of(module, split(shows)[1])))
+            found.append((made(module, signature).shows, kinds_of(module, "shows", split(shows)[1])))
     return found
+
+
+def attributes_for(module, attributes):
+    """What can be given for some attributes of a module, as a dict."""
+    return deepcopy({part: OTHER_ATTRIBUTES.get(module, {}).get(part, ATTRIBUTES[part]) for part in attributes})
 
 
 def made(module, signature):
     name, attributes = split(signature)
-    return getattr(import_module("memoryviews." + module), name)(*[deepcopy(ATTRIBUTES[part]) for part in attributes])
+    return getattr(import_module("memoryviews." + module), name)(*attributes_for(module, attributes).values())
 
 
 def is_good(kind, thing):
     """Whether one of the values in ANYTHING is right for an argument of this kind."""
-    return kind in ("thing", "story", "leaving") or (kind == "room" and type(thing) is int and thing in (0, 1)) or (
-        kind == "run" and isinstance(thing, (list, tuple)))
+    if type(thing) is int:
+        return kind in ("thing", "story", "leaving", "has_fences") or (
+            thing in (0, 1) and kind in ("room", "hand", "behind")) or (thing == 1 and kind == "depth")
+    return kind in ("thing", "story", "leaving", "has_fences") or (
+        isinstance(thing, (list, tuple)) and kind in ("run", "whole")) or (kind == "hands" and thing == ())
 
 
 class TestInterface(unittest.TestCase):
@@ -154,8 +199,8 @@ class TestInterface(unittest.TestCase):
                 self.assertEqual(list(inspect.signature(kind.shows).parameters), ["self"] + split(shows)[1])
                 evidence = made(module, signature)
                 self.assertEqual(sorted(evidence.__dict__), sorted(attributes))
-                for attribute in attributes:
-                    self.assertEqual(getattr(evidence, attribute), ATTRIBUTES[attribute])
+                for attribute, thing in attributes_for(module, attributes).items():
+                    self.assertEqual(getattr(evidence, attribute), thing)
 
     def test_desks_and_stories(self):
         desk = getattr(import_module("memoryviews.desks"), "Desk")
@@ -193,14 +238,14 @@ class TestWrongArguments(unittest.TestCase):
 
     def test_wrong_arguments_come_before_what_is_too_large(self):
         for function, arguments in all_functions():
-            name = getattr(function, "__name__")
+            module = function.__module__.split(".")[1]
             for program in (HUGE, STORIES_601, ONE_MORE["queues"]):
                 for at, kind in enumerate(arguments):
                     error = KINDS[kind][1]
-                    if kind not in ("program", "log") and error is not None and name != "with_scheme":
+                    if kind not in ("program", "log") and error is not None and module not in CONDITIONED:
                         given = [program if part == "program" else KINDS[part][0] for part in arguments]
                         given[at] = None
-                        if len(program) == 2 or kind in ("rule", "one", "other", "scheme"):
+                        if len(program) == 2 or kind in ("rule", "one", "other", "goal", "scheme"):
                             self.assertRaises(error, function, *given)
 
     def test_one_by_one(self):
@@ -258,7 +303,7 @@ class TestEquality(unittest.TestCase):
             for signature in classes:
                 name, attributes = split(signature)
                 kind = getattr(import_module("memoryviews." + module), name)
-                given = [deepcopy(ATTRIBUTES[part]) for part in attributes]
+                given = list(attributes_for(module, attributes).values())
                 evidence = kind(*given)
                 for attribute, thing in zip(attributes, given):
                     if isinstance(thing, (list, dict)):
@@ -273,12 +318,13 @@ class TestEquality(unittest.TestCase):
             ("rooms", "Roomy(number, lost)", "lost"), ("telling", "Barred(rows)", "rows"),
             ("lines", "Lined(lines)", "lines"), ("fencing", "Cheapest(choice, lines, against)", "lines"),
             ("fencing", "Cheapest(choice, lines, against)", "against"), ("fencing", "Unfenced(against)", "against"),
+            ("merging", "Narrower(runs)", "runs"), ("depths", "Deep(number, lost)", "lost"),
         ):
             name, attributes = split(signature)
             kind = getattr(import_module("memoryviews." + module), name)
-            given = {part: deepcopy(ATTRIBUTES[part]) for part in attributes}
+            given = attributes_for(module, attributes)
             evidence = kind(*given.values())
-            if attribute in ("rows", "lines", "against"):
+            if module in ("telling", "lines", "fencing"):
                 story, things = given[attribute][() if attribute == "against" else 0]
                 story.reads.clear()
                 things.clear()

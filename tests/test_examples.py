@@ -141,6 +141,37 @@ True
 True
 """
 
+KNOWING = """
+>>> from memoryviews.knowing import judge_knowing, least_rows, stands_of
+>>> from memoryviews.turning import judge_turn, open_outcomes, turn_of
+>>> message = ((("put", 0, 1), ("put", 1, 1)), (("get", 0, 1), ("get", 1, 0)))
+>>> [least_rows(message, rule, 1, (1, (1, 0, 0))) for rule in ("one", "queues", "lanes", "views")]
+[(2, 1), (2, 1), (2, 1), (2, 1)]
+>>> [least_rows(message, rule, 1, (2, (1, 0, 0))) for rule in ("one", "lanes")]
+[None, (2, 2)]
+>>> [len(stands_of(message, "one", 1)), judge_knowing(message, "one", 0, (1, (0, 0, 0))).rows]
+[6, (1, 0)]
+>>> run = [("do", 1, None), ("do", 0, None), ("do", 1, None), ("do", 0, None)]
+>>> [len(open_outcomes(message, "one", run[:many])) for many in range(5)]
+[3, 2, 1, 1, 1]
+>>> [turn_of(message, "one", run), judge_turn(message, "one", run).number, len(judge_turn(message, "one", run).other)]
+[2, 2, 4]
+"""
+
+DEPTHS = """
+>>> from memoryviews.depths import least_depth, outcomes_within
+>>> from memoryviews.merging import always_narrower, is_narrower, merged, merged_outcome
+>>> program = ((("put", 0, 1),), (("get", 0, 0), ("get", 1, 1)), (("put", 1, 1), ("fence",), ("get", 2, 0)))
+>>> merged(program, 0, 1)
+((('put', 0, 1), ('get', 0, 0), ('get', 1, 1)), (('put', 1, 1), ('fence',), ('get', 2, 0)))
+>>> [[is_narrower(program, 0, 1, rule) for rule in ("one", "queues", "lanes", "views")], always_narrower("views")]
+[[True, False, False, True], True]
+>>> merged_outcome(program, 0, 1, (((0, 0, 0), (1, 0, 0), (0, 0, 1)), (1, 1, 0, 0)))
+(((1, 0, 0), (0, 0, 1)), (1, 1, 0, 0))
+>>> [least_depth(program), len(outcomes_within(((("put", 0, 1), ("put", 0, 2)), (("get", 0, 0),)), 1)), least_depth(((("put", 0, 1), ("put", 0, 2)), (("get", 0, 0),)))]
+[2, 3, 1]
+"""
+
 EXAMPLES = {
     "runs": RUNS,
     "rooms": ROOMS,
@@ -155,6 +186,8 @@ EXAMPLES = {
     "changes": CHANGES,
     "twins": TWINS,
     "texts": TEXTS,
+    "knowing": KNOWING,
+    "depths": DEPTHS,
 }
 
 
