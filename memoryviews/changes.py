@@ -3,10 +3,9 @@
 from memoryviews.errors import BadRows, TooLarge
 from memoryviews.exploring import ends_of, explore
 from memoryviews.machines import check_rule
-from memoryviews.programs import NOTHING_HELD, PLACES, is_getting, is_program, is_row, place_of, slot_of
+from memoryviews.programs import NOTHING_HELD, PLACES, PUTS, is_getting, is_program, is_row, place_of, slot_of
 from memoryviews.values import frozen, is_between, same
 
-PUTS = ("put", "give")
 FENCE = ("fence",)
 VALUES = (1, 2, 3)
 # words of two rows that can be exchanged by queues and by lanes

@@ -74,10 +74,10 @@ def is_gap(program, thing):
     return is_between(thing[1], 0, len(program[thing[0]]))
 
 
-def check_prices(program, prices):
-    """Raise BadPrices for what are no prices of gaps of a program."""
-    if not isinstance(prices, dict) or not 1 <= len(prices) <= MOST_GAPS:
-        raise BadPrices("no dict with one to four gaps")
+def check_prices(program, prices, most):
+    """Raise BadPrices for what are no prices of at most so many gaps of a program."""
+    if not isinstance(prices, dict) or not 1 <= len(prices) <= most:
+        raise BadPrices("no dict with as few gaps as that")
     if not all([is_gap(program, gap) and is_between(prices[gap], 1, HIGHEST_PRICE) for gap in prices]):
         raise BadPrices("no gaps with prices")
     if not is_program(with_fences(program, sorted(prices))):
@@ -88,7 +88,7 @@ def choices_by(program, rule, prices):
     """The list of all choices in their order, for arguments that may be wrong."""
     check_program(program)
     check_rule(rule)
-    check_prices(program, prices)
+    check_prices(program, prices, MOST_GAPS)
     # no choice has more stories than all gaps: a fence less only takes something out of the orders of fences
     count_stories(with_fences(program, sorted(prices)), rule)
     return all_choices(prices)

@@ -10,6 +10,8 @@ HIGHEST_VALUE = 3
 # what a hand holds at first in its registers, and what is at first at the places
 NOTHING_HELD = (0, 0, 0)
 NOTHING_THERE = (0, 0, 0, 0)
+# the words of the rows that put, and get nothing
+PUTS = ("put", "give")
 # for each word the highest numbers that may follow it; the last number of an only is limited by its hand
 FORMS = {
     "put": (3, 3),

@@ -64,6 +64,18 @@ FUNCTIONS = {
     "compiling": (
         "judge_keeping(scheme, rule, goal)", "is_kept(scheme, rule, goal)", "keeping_schemes(rule, goal)",
     ),
+    "sections": (
+        "locked(program, has_fences)", "serial_outcome(program, hands)", "judge_sections(program, rule, has_fences)",
+        "is_serial(program, rule, has_fences)", "always_serial(rule, has_fences)",
+    ),
+    "chances": (
+        "chances(program, rule)", "run_counts(program, rule)", "count_runs(program, rule)",
+        "chance_of(program, rule, outcome)",
+    ),
+    "attacks": ("judge_attack(program, rule)", "is_calm(program, rule)", "least_attack(program, rule)"),
+    "partings": ("parting(program)", "is_whole(program)", "least_parting(program)"),
+    "parrying": ("parry(program, rule, prices)", "least_parry(program, rule, prices)"),
+    "sparing": ("spare(program, rule)", "fewest_fences(program, rule)", "keeping(program, choice)"),
 }
 CLASSES = {
     "runs": {"Seen(run)": "(program, rule, outcome)", "Never(states)": "(program, rule, outcome)",
@@ -86,6 +98,11 @@ CLASSES = {
     "merging": {"Narrower(runs)": "(program, one, other, rule)", "Wider(run, states)": "(program, one, other, rule)"},
     "depths": {"Deep(number, lost)": "(program)"},
     "compiling": {"Kept()": "(scheme, rule, goal)", "Leaked(program, run)": "(scheme, rule, goal)"},
+    "sections": {"Serial(orders)": "(program, rule, has_fences)", "Torn(run)": "(program, rule, has_fences)"},
+    "attacks": {"Attack(stretches)": "(program, rule)", "Calm(chains)": "(program, rule)"},
+    "partings": {"Parting(stretches)": "(program)"},
+    "parrying": {"Parried(choice, against)": "(program, rule, prices)", "Unparried(against)": "(program, rule, prices)"},
+    "sparing": {"Kept(fences, against)": "(program, rule)", "Unkept(stretches)": "(program, rule)"},
 }
 DESK = {
     "state": "(self)", "deeds": "(self)", "journal": "(self)", "is_over": "(self)", "outcome": "(self)",
@@ -100,11 +117,14 @@ ATTRIBUTES = {
     "rows": [(STORY, [((0, 0), "row"), ((0, 1), "past")])], "hands": (0, 1), "lines": [(STORY, [(0, 0), (0, 1)])],
     "circle": [((0, 0), "row"), ((0, 1), "past")], "choice": ((0, 1),),
     "against": {(): (STORY, [((0, 0), "row"), ((0, 1), "past")])}, "at": 0, "outcome": LATE, "which": 1,
-    "other": [("do", 1, None)],
+    "other": [("do", 1, None)], "orders": {LATE: (1, 0)}, "stretches": [((0, 0), (0, 1)), ((1, 0), (1, 1))],
+    "chains": {((0, 0), (0, 1)): [((0, 1), (0,)), ((1, 1), (0, 1))]}, "fences": ((0, 1), (1, 2)),
 }
 # attributes that are of another kind in some modules
 OTHER_ATTRIBUTES = {
     "knowing": {"rows": (0, 1), "runs": ([("do", 0, None)], [])},
+    "parrying": {"against": {(): [((0, 0), (0, 1)), ((1, 0), (1, 1))]}},
+    "sparing": {"against": {(): [((0, 0), (0, 1)), ((1, 0), (1, 1))]}},
 }
 LOG = ((("put", 0, 1), ("got", 1, 0)), (("put", 1, 1), ("got", 0, 0)))
 # for each kind of argument a good one, and the error that a wrong one raises
@@ -319,6 +339,8 @@ class TestEquality(unittest.TestCase):
             ("lines", "Lined(lines)", "lines"), ("fencing", "Cheapest(choice, lines, against)", "lines"),
             ("fencing", "Cheapest(choice, lines, against)", "against"), ("fencing", "Unfenced(against)", "against"),
             ("merging", "Narrower(runs)", "runs"), ("depths", "Deep(number, lost)", "lost"),
+            ("attacks", "Calm(chains)", "chains"), ("parrying", "Parried(choice, against)", "against"),
+            ("parrying", "Unparried(against)", "against"), ("sparing", "Kept(fences, against)", "against"),
         ):
             name, attributes = split(signature)
             kind = getattr(import_module("memoryviews." + module), name)

@@ -172,6 +172,61 @@ DEPTHS = """
 [2, 3, 1]
 """
 
+CHANCES = """
+>>> from memoryviews.chances import chance_of, chances, count_runs, run_counts
+>>> from memoryviews.compiling import is_kept, judge_keeping, keeping_schemes
+>>> from memoryviews.sections import always_serial, is_serial, locked, serial_outcome
+>>> program = ((("put", 0, 1), ("get", 0, 1)), (("put", 1, 1), ("get", 0, 0)))
+>>> none = (((0, 0, 0), (0, 0, 0)), (1, 1, 0, 0))
+>>> [count_runs(program, "one"), list(chances(program, "one").values()), list(run_counts(program, "one").values()), chance_of(program, "one", none)]
+[6, [(1, 4), (1, 4), (1, 2)], [1, 1, 4], (0, 1)]
+>>> [keeping_schemes("lanes", "queues"), keeping_schemes("views", "lanes"), is_kept("most", "views", "queues"), judge_keeping("gets", "lanes", "views").shows("gets", "lanes", "views")]
+[['puts', 'both', 'all', 'aheads', 'most'], ['all', 'behinds', 'most'], True, True]
+>>> inside = ((("put", 0, 1), ("get", 0, 1)), (("get", 0, 0), ("put", 1, 1)))
+>>> [[is_serial(inside, rule, False) for rule in ("one", "queues", "lanes", "views")], is_serial(inside, "lanes", True), always_serial("lanes", False)]
+[[True, True, False, True], True, False]
+>>> [locked((((("get", 0, 1),)),), True), serial_outcome(inside, (1, 0)), serial_outcome(inside, (0,))]
+[((('swap', 2, 3, 1), ('only', 2, 0, 3), ('get', 0, 1), ('fence',), ('put', 3, 0)),), (((1, 0, 0), (0, 0, 0)), (1, 1, 0, 0)), (((0, 0, 0), (0, 0, 1)), (1, 0, 0, 0))]
+"""
+
+ATTACKS = """
+>>> from memoryviews.attacks import Attack, is_calm, judge_attack, least_attack
+>>> program = ((('put', 0, 1), ('get', 0, 1)), (('put', 1, 1), ('get', 0, 0)))
+>>> [is_calm(program, 'queues'), least_attack(program, 'queues'), Attack([((0, 0), (0, 1)), ((1, 0), (1, 1))]).shows(program, 'queues')]
+[False, 4, True]
+>>> message = ((('put', 0, 1), ('put', 1, 1)), (('get', 0, 1), ('get', 1, 0)))
+>>> [is_calm(message, 'queues'), is_calm(message, 'lanes'), judge_attack(message, 'queues').chains]
+[True, False, {}]
+"""
+
+PARTINGS = """
+>>> from memoryviews.partings import Parting, is_whole, least_parting
+>>> readers = ((('get', 0, 0), ('get', 1, 1)), (('get', 0, 1), ('get', 1, 0)))
+>>> four = ((('put', 0, 1),), (('put', 1, 1),)) + readers
+>>> [is_whole(four), least_parting(four), is_whole(((('put', 0, 1), ('put', 1, 1)),) + readers[1:])]
+[False, 6, True]
+>>> Parting([((0, 0), (0, 0)), ((2, 0), (2, 1)), ((1, 0), (1, 0)), ((3, 0), (3, 1))]).shows(four)
+True
+"""
+
+PARRYING = """
+>>> from memoryviews.parrying import least_parry, parry
+>>> program = ((('put', 0, 1), ('get', 0, 1)), (('put', 1, 1), ('get', 0, 0)))
+>>> prices = {(0, 1): 3, (1, 1): 2, (0, 2): 1}
+>>> [parry(program, 'queues', prices).choice, least_parry(program, 'lanes', prices), least_parry(program, 'views', {(0, 2): 1})]
+[((0, 1), (1, 1)), 5, None]
+"""
+
+SPARING = """
+>>> from memoryviews.sparing import Kept, fewest_fences, keeping, spare
+>>> fence = ('fence',)
+>>> program = ((('put', 0, 1), fence, ('get', 0, 1), fence), (fence, ('put', 1, 1), fence, ('get', 0, 0)))
+>>> [spare(program, rule).fences for rule in ('queues', 'lanes', 'views')]
+[((0, 1), (1, 2)), ((0, 1), (1, 2)), ((0, 1), (1, 2))]
+>>> [len(spare(program, 'queues').against), fewest_fences(keeping(program, ((0, 1),)), 'queues'), keeping(program, ((1, 2),))[1]]
+[5, None, (('put', 1, 1), ('fence',), ('get', 0, 0))]
+"""
+
 EXAMPLES = {
     "runs": RUNS,
     "rooms": ROOMS,
@@ -188,6 +243,11 @@ EXAMPLES = {
     "texts": TEXTS,
     "knowing": KNOWING,
     "depths": DEPTHS,
+    "chances": CHANCES,
+    "attacks": ATTACKS,
+    "partings": PARTINGS,
+    "parrying": PARRYING,
+    "sparing": SPARING,
 }
 
 

@@ -7,7 +7,7 @@ import re
 import unittest
 
 PACKAGE = os.path.join(os.path.dirname(os.path.dirname(os.path.abspath(__file__))), "memoryviews")
-LIBRARY = {"math": {"factorial"}, "itertools": {"combinations", "permutations", "product"}}
+LIBRARY = {"math": {"factorial", "gcd"}, "itertools": {"combinations", "permutations", "product"}}
 BUILTINS = {
     "len", "range", "enumerate", "zip", "min", "max", "sum", "abs", "sorted", "reversed", "int", "str", "bool", "list",
     "tuple", "dict", "set", "isinstance", "any", "all", "ValueError", "super",
@@ -272,7 +272,7 @@ class TestForm(unittest.TestCase):
                 self.assertEqual(node.keywords, [], (name, node.lineno))
             elif isinstance(node.func, ast.Name) and node.func.id in BUILTINS:
                 for keyword in node.keywords:
-                    self.assertEqual((node.func.id, keyword.arg), ("sorted", "key"))
+                    self.assertIn((node.func.id, keyword.arg), (("sorted", "key"), ("min", "key")))
                 if node.func.id in ("any", "all", "sum"):
                     self.assertIsInstance(node.args[0], (ast.ListComp, ast.Call, ast.Name), (name, node.lineno))
 
